@@ -13,26 +13,39 @@ const (
 	feedback = 0x1021 // what is exclusive-ored when the bit that falls out is 1
 )
 
-// steps tells what the upper four bits of a sum leave behind when all four have fallen out: with half a byte at a time 16 entries do.
+// steps tells what the upper four bits of a sum leave behind when all four have fallen out: with half a byte at a time 16 entries do. SumByTable alone reads it.
 var (
 	steps     [16]uint16
 	stepsOnce sync.Once
 )
 
-// fillSteps makes the sum's table, bit by bit.
+// fillSteps makes the sum's table.
 func fillSteps() {
 	for i := range steps {
-		s := uint16(i) << 12
-		for range 4 {
-			fallen := s >> 15
-			s = s<<1 ^ fallen*feedback
-		}
-		steps[i] = s
+		steps[i] = doubled(uint16(i)<<12, 4)
 	}
+}
+
+// doubled is a sum behind so many doublings.
+func doubled(s uint16, times int) uint16 {
+	for range times {
+		fallen := s >> 15
+		s = s<<1 ^ fallen*feedback
+	}
+	return s
 }
 
 // Sum is the sum of bytes.
 func Sum(b []byte) int {
+	s := uint16(allOnes)
+	for _, x := range b {
+		s = doubled(s^uint16(x)<<8, 8)
+	}
+	return int(s)
+}
+
+// SumByTable is what Sum is, half a byte at a time.
+func SumByTable(b []byte) int {
 	stepsOnce.Do(fillSteps)
 	s := uint16(allOnes)
 	for _, x := range b {

@@ -3,46 +3,45 @@ package octet_test
 import (
 	"bytes"
 	"math"
-	"sync"
 	"testing"
 
 	"catenary/api"
 	"catenary/octet"
 )
 
-// P1.1: the sum.
-func TestSum(t *testing.T) {
-	if s := octet.Sum([]byte("123456789")); s != 0x29B1 {
-		t.Errorf("%x", s)
+// sums fails unless both ways to the sum answer what is asked for.
+func sums(t *testing.T, b []byte, want int) {
+	t.Helper()
+	if got := octet.Sum(b); got != want {
+		t.Fatalf("of %d bytes % x: %x, asked for %x", len(b), b, got, want)
 	}
-	if s := octet.Sum(nil); s != 0xFFFF {
-		t.Errorf("of nothing: %x", s)
-	}
-	for n := range 600 {
-		b := row(n)
-		if got, want := octet.Sum(b), plainSum(b); got != want {
-			t.Fatalf("of %d bytes: %x, asked for %x", n, got, want)
-		}
-	}
-	for x := range 1 << 16 {
-		b := []byte{byte(x >> 8), byte(x)}
-		if got, want := octet.Sum(b), plainSum(b); got != want {
-			t.Fatalf("of % x: %x, asked for %x", b, got, want)
-		}
+	if got := octet.SumByTable(b); got != want {
+		t.Fatalf("of %d bytes % x, by the table: %x, asked for %x", len(b), b, got, want)
 	}
 }
 
-// P1.1: the table is there for whoever asks first, also if many ask at once.
-func TestSumAtOnce(t *testing.T) {
-	var all sync.WaitGroup
-	got := make([]int, 16)
-	for i := range got {
-		all.Go(func() { got[i] = octet.Sum([]byte("123456789")) })
+// P1.1: the sum, and the same one by the table.
+func TestSum(t *testing.T) {
+	sums(t, []byte("123456789"), 0x29B1)
+	sums(t, nil, 0xFFFF)
+	sums(t, []byte{}, 0xFFFF)
+	for n := range 600 {
+		b := row(n)
+		sums(t, b, plainSum(b))
 	}
-	all.Wait()
-	for _, s := range got {
-		if s != 0x29B1 {
-			t.Errorf("%x", s)
+	for x := range 1 << 16 {
+		b := []byte{byte(x >> 8), byte(x)}
+		sums(t, b, plainSum(b))
+	}
+}
+
+// P1.1: each single bit of a byte, at each place, turns the sum as the document says it.
+func TestSumBits(t *testing.T) {
+	for _, n := range []int{1, 2, 3, 9, 40} {
+		for at := range 8 * n {
+			b := make([]byte, n)
+			b[at/8] = 0x80 >> (at % 8)
+			sums(t, b, plainSum(b))
 		}
 	}
 }

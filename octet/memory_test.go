@@ -70,6 +70,7 @@ func TestPutReadsAlone(t *testing.T) {
 func TestFramesKeepNothing(t *testing.T) {
 	body := roomy(6, 7)
 	octet.Sum(body)
+	octet.SumByTable(body)
 	f, e := octet.Seal(9, body)
 	untouched(t, body, 6, 7)
 	sealed := bytes.Clone(f)
